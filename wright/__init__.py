@@ -1,0 +1,1 @@
+"""Wright: readers made from grammars."""
