@@ -142,3 +142,108 @@ class Soon:
     def __exit__(self, kind, error, trace):
         if kind is None:
             self.case.assertLess(time.process_time() - self.begun, self.seconds)
+
+
+def head_order(rules):
+    told = []
+    for head, parts in rules:
+        if head not in told:
+            told.append(head)
+    return told
+
+
+def first_rows(rules):
+    """For each name the rows of its trees, cut behind their first word: () and (word,), by the words of point 10."""
+    rows = {head: set() for head, parts in rules}
+    while True:
+        many = sum(len(found) for found in rows.values())
+        for head, parts in rules:
+            made = {()}
+            for part in parts:
+                made = {(one + other)[:1] for one in made for other in rows.get(part, {(part,)})}
+            rows[head] |= made
+        if sum(len(found) for found in rows.values()) == many:
+            return rows
+
+
+def sizes_of_trees(rules, above, with_words):
+    """For each name the sizes of its trees (of those of no words alone), all those above `above` as above + 1."""
+    sizes = {head: set() for head, parts in rules}
+    word_sizes = {0} if with_words else set()
+    while True:
+        many = sum(len(found) for found in sizes.values())
+        for head, parts in rules:
+            made = {1}
+            for part in parts:
+                made = {min(one + other, above + 1) for one in made for other in sizes.get(part, word_sizes)}
+            sizes[head] |= made
+        if sum(len(found) for found in sizes.values()) == many:
+            return sizes
+
+
+def names_below(rules, empty, like_rows):
+    """All pairs (name, name) of a name and one in its trees, or in those trees with a like row alone."""
+    pairs = set()
+    names = head_order(rules)
+    for head, parts in rules:
+        for place, part in enumerate(parts):
+            others = parts[:place] + parts[place + 1:]
+            if part in names and (not like_rows or all(other in empty for other in others)):
+                pairs.add((head, part))
+    for middle in names:
+        for one in names:
+            for other in names:
+                if (one, middle) in pairs and (middle, other) in pairs:
+                    pairs.add((one, other))
+    return pairs
+
+
+def plain_fault(rules):
+    """The name of the first refusal of point 11 that the rules have, and its names (None of a loop); else None."""
+    names = head_order(rules)
+    if not rules:
+        return ("NoRules", None)
+    rows = first_rows(rules)
+    endless = [name for name in names if not rows[name]]
+    if endless:
+        return ("Endless", endless)
+    empty = [name for name in names if () in rows[name]]
+    unmet = [name for name in names[1:] if (names[0], name) not in names_below(rules, empty, False)]
+    if unmet:
+        return ("Unmet", unmet)
+    if any(one == other for one, other in names_below(rules, empty, True)):
+        return ("Loop", None)
+    trees = sizes_of_trees(rules, 60, True)
+    empty_trees = sizes_of_trees(rules, 60, False)
+    vast = [name for name in names if 61 in empty_trees[name] or trees[name] == {61}]
+    return ("Vast", vast) if vast else None
+
+
+def steps_are_a_loop(rules, steps):
+    """Whether the steps are as point 11 asks of those of a Loop."""
+    empty = [name for name, rows in first_rows(rules).items() if () in rows]
+    if not 1 <= len(steps) <= 100:
+        return False
+    for at, (number, place) in enumerate(steps):
+        if number not in range(len(rules)) or place not in range(len(rules[number][1])):
+            return False
+        parts = rules[number][1]
+        if parts[place] != rules[steps[(at + 1) % len(steps)][0]][0]:
+            return False
+        if not all(other in empty for other in parts[:place] + parts[place + 1:]):
+            return False
+    return True
+
+
+def chance_rules(chance, most_rules, most_parts, names, words):
+    """A list of rules, the same for the same state of `chance`; perhaps one that is refused."""
+    told = [("A", tuple(chance.choices(names + words, k=chance.randrange(most_parts + 1))))]
+    for _ in range(chance.randrange(most_rules)):
+        parts = chance.choices(names + words, k=chance.randrange(most_parts + 1))
+        told.append((chance.choice(names), tuple(parts)))
+    return told
+
+
+def chance_rule_lists(seed, many, most_rules=8, most_parts=4, names="ABCD", words="xyz"):
+    chance = random.Random(seed)
+    return [chance_rules(chance, most_rules, most_parts, list(names), list(words)) for _ in range(many)]
