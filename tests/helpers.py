@@ -247,3 +247,120 @@ def chance_rules(chance, most_rules, most_parts, names, words):
 def chance_rule_lists(seed, many, most_rules=8, most_parts=4, names="ABCD", words="xyz"):
     chance = random.Random(seed)
     return [chance_rules(chance, most_rules, most_parts, list(names), list(words)) for _ in range(many)]
+
+
+def empty_names(rules):
+    return [name for name, rows in first_rows(rules).items() if () in rows]
+
+
+class PlainTrees:
+    """All trees of names with rows (tuples), by the words of point 10. To be asked of rules without a loop."""
+
+    def __init__(self, rules):
+        self.rules = rules
+        self.heads = head_order(rules)
+        self.empty = empty_names(rules)
+        self.known = {}
+
+    def of(self, name, row):
+        if (name, row) not in self.known:
+            self.known[name, row] = [
+                (number, children) for number, (head, parts) in enumerate(self.rules) if head == name
+                for children in self.children(parts, row)]
+        return self.known[name, row]
+
+    def children(self, parts, row):
+        if not parts:
+            return [] if row else [()]
+        told = []
+        for cut in range(len(row) + 1):
+            # What is in vain is not looked at: looking would not end where a name begins or ends by itself.
+            if cut == 0 and parts[0] not in self.empty:
+                continue
+            if cut == len(row) and not all(part in self.empty for part in parts[1:]):
+                continue
+            rests = self.children(parts[1:], row[cut:])
+            if rests:
+                told += [(first,) + rest for first in self.child(parts[0], row[:cut]) for rest in rests]
+        return told
+
+    def child(self, part, row):
+        if part in self.heads:
+            return self.of(part, row)
+        return [part] if row == (part,) else []
+
+
+def plain_row(tree):
+    return [tree] if isinstance(tree, str) else [word for child in tree[1] for word in plain_row(child)]
+
+
+def tree_order(one, other):
+    """Below nought where the one comes first by point 19, nought where they are alike, else above nought."""
+    if one == other:
+        return 0
+    if one[0] != other[0]:
+        return one[0] - other[0]
+    for child, beside in zip(one[1], other[1]):
+        if child != beside:
+            return len(plain_row(child)) - len(plain_row(beside)) or tree_order(child, beside)
+
+
+def plain_stands(rules, tree, name):
+    """Whether it is a tree of the name, by the words of point 10."""
+    if isinstance(tree, str) or isinstance(tree[0], bool) or tree[0] not in range(len(rules)):
+        return False
+    head, parts = rules[tree[0]]
+    heads = head_order(rules)
+    return head == name and len(parts) == len(tree[1]) and all(
+        plain_stands(rules, child, part) if part in heads else child == part
+        for child, part in zip(tree[1], parts))
+
+
+def plain_sets(rules, beginning):
+    """The sets of places by the words of point 21, in rounds until nothing new stands in any."""
+    heads = head_order(rules)
+    sets = [set() for _ in range(len(beginning) + 1)]
+    sets[0] = {(number, 0, 0) for number, rule in enumerate(rules) if rule[0] == rules[0][0]}
+    while True:
+        many = sum(len(found) for found in sets)
+        for here, found in enumerate(sets):
+            for number, dot, since in list(found):
+                head, parts = rules[number]
+                if dot == len(parts):
+                    found |= {(other, at + 1, ago) for other, at, ago in sets[since]
+                              if rules[other][1][at:at + 1] == (head,)}
+                elif parts[dot] in heads:
+                    found |= {(other, 0, here) for other, rule in enumerate(rules) if rule[0] == parts[dot]}
+                elif beginning[here:here + 1] == [parts[dot]]:
+                    sets[here + 1].add((number, dot + 1, since))
+        if sum(len(found) for found in sets) == many:
+            return [sorted(found) for found in sets]
+
+
+def plain_closed(rules, places):
+    """The closed list of places by the words of point 23, in rounds until nothing new is added."""
+    rows = first_rows(rules)
+    every = rules + [("", (rules[0][0],))]
+    found = set(places)
+    while True:
+        many = len(found)
+        for number, dot, ahead in list(found):
+            parts = every[number][1]
+            if dot < len(parts) and parts[dot] in rows:
+                made = {()}
+                for part in parts[dot + 1:]:
+                    made = {(one + other)[:1] for one in made for other in rows.get(part, {(part,)})}
+                found |= {(other, 0, (one + (ahead,))[0]) for other, rule in enumerate(rules)
+                          if rule[0] == parts[dot] for one in made}
+        if len(found) == many:
+            return sorted(found)
+
+
+def sound_lists(seed, many, *sizes):
+    """Chance lists of rules that no refusal of point 11 holds of."""
+    return [rules for rules in chance_rule_lists(seed, many, *sizes) if plain_fault(rules) is None]
+
+
+def chance_rows(seed, many, most, words):
+    chance = random.Random(seed)
+    return [chance.choices(words, k=chance.randrange(most + 1)) for _ in range(many)]

@@ -2,7 +2,7 @@
 
 import unittest
 
-from tests.helpers import Soon, chance_rule_lists, first_rows, plain_fault
+from tests.helpers import Soon, first_rows, sound_lists
 from wright.begin_checks import begins_lack, begins_stand, empties_lack, empties_stand
 from wright.begins import begin_words, begins_of, empties_of
 from wright.grammars import Grammar
@@ -11,10 +11,6 @@ SUM = [("E", ("E", "+", "T")), ("E", ("T",)), ("T", ("n",)), ("T", ("(", "E", ")
 # A, B and C can be empty: C by itself, B by C, A by both; D and S can not.
 EMPTIES = [("S", ("A", "D", "z")), ("A", ("B", "C")), ("B", ("C", "C")), ("B", ("b",)), ("C", ()), ("C", ("c", "S")),
            ("D", ("A", "d"))]
-
-
-def sound_lists(seed, many):
-    return [rules for rules in chance_rule_lists(seed, many) if plain_fault(rules) is None]
 
 
 class EmptiesTest(unittest.TestCase):

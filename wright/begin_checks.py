@@ -3,7 +3,7 @@
 They only look up what is told, and share nothing with what finds it.
 """
 
-from wright.rules import heads_of
+from wright.rules import heads_of, is_number_below, is_rule_of
 
 
 def empties_stand(rules, told):
@@ -58,11 +58,3 @@ def begins_lack(rules, names, pairs):
             if part not in empty:
                 break
     return None
-
-
-def is_rule_of(rules, number, name):
-    return is_number_below(number, len(rules)) and rules[number][0] == name
-
-
-def is_number_below(number, many):
-    return isinstance(number, int) and not isinstance(number, bool) and 0 <= number < many

@@ -54,11 +54,19 @@ class BeginTable:
     def words_of_part(self, part):
         return list(self.firsts[part]) if part in self.firsts else [part]
 
-    def words_of_parts(self, parts, ahead):
+    # The words that begin these parts, as keys.
+    def first_words(self, parts):
         words = {}
         for place in first_places(parts, self.empty):
             for word in self.words_of_part(parts[place]):
                 words[word] = True
-        if all([part in self.empty for part in parts]):
+        return words
+
+    def all_empty(self, parts):
+        return all([part in self.empty for part in parts])
+
+    def words_of_parts(self, parts, ahead):
+        words = self.first_words(parts)
+        if self.all_empty(parts):
             words[ahead] = True
         return sorted(words)
