@@ -364,3 +364,66 @@ def sound_lists(seed, many, *sizes):
 def chance_rows(seed, many, most, words):
     chance = random.Random(seed)
     return [chance.choices(words, k=chance.randrange(most + 1)) for _ in range(many)]
+
+
+def plain_rooms(rules, most_rooms=120, most_places=300):
+    """Rooms and steps by the words of point 25; None where there are too many."""
+    every = rules + [("", (rules[0][0],))]
+    rooms = [plain_closed(rules, [(len(rules), 0, "")])]
+    steps = []
+    for at, room in enumerate(rooms):
+        if at == most_rooms or len(room) > most_places:
+            return None
+        for part in sorted({every[number][1][dot] for number, dot, ahead in room if dot < len(every[number][1])}):
+            moved = plain_closed(rules, [(number, dot + 1, ahead) for number, dot, ahead in room
+                                         if every[number][1][dot:dot + 1] == (part,)])
+            if moved not in rooms:
+                rooms.append(moved)
+            steps.append((at, part, rooms.index(moved)))
+    return rooms, steps
+
+
+def plain_deeds(rules, plan):
+    """The deeds of a plan by the words of point 26."""
+    every = rules + [("", (rules[0][0],))]
+    told = {(room, part, ("step", to)) for room, part, to in plan[1] if part not in head_order(rules)}
+    for number, room in enumerate(plan[0]):
+        for rule, dot, ahead in room:
+            if rule == len(rules) and dot == 1:
+                told.add((number, "", ("done",)))
+            elif dot == len(every[rule][1]):
+                told.add((number, ahead, ("make", rule)))
+    return sorted(told)
+
+
+def plain_tree_deeds(tree):
+    """The deeds of a tree but its done, by the words of point 29."""
+    if isinstance(tree, str):
+        return [("step", tree)]
+    return [deed for child in tree[1] for deed in plain_tree_deeds(child)] + [("make", tree[0])]
+
+
+def plain_paper(rules, paper, word, one, other):
+    """Whether the paper stands, by the words of point 30."""
+    if not all(plain_stands(rules, tree, rules[0][0]) for tree in paper):
+        return False
+    first, second = [plain_tree_deeds(tree) + [("done",)] for tree in paper]
+    for at in range(min(len(first), len(second))):
+        if first[:at] == second[:at] and first[at] == one and second[at] == other and one != other:
+            behind = [[deed[1] for deed in deeds[at:] if deed[0] == "step"] + [""] for deeds in (first, second)]
+            return behind[0][0] == word and behind[1][0] == word
+    return False
+
+
+def wide_rules(texts, rules):
+    """Rules of N, so many of them, whose room has each of them with each of so many texts ahead."""
+    return [("N", ("N", f"w{at}")) for at in range(texts - 1)] + [("N", (f"x{at}",)) for at in range(rules - texts + 1)]
+
+
+def long_rules(parts):
+    """A chain of rules with so many parts in all, six in each but the last; its rooms are two more than its parts."""
+    told = []
+    while parts > 6:
+        told.append((f"N{len(told)}", ("a", "b", "c", "d", "e", f"N{len(told) + 1}")))
+        parts -= 6
+    return told + [(f"N{len(told)}", ("a", "b", "c", "d", "e", "f")[:parts])]

@@ -27,6 +27,15 @@ def numbers_by_name(rules):
     return numbers
 
 
+# For each part the tuples (rule, place) where it stands.
+def standings_by_part(rules):
+    standings = {}
+    for number, rule in enumerate(rules):
+        for place, part in enumerate(rule[1]):
+            standings.setdefault(part, []).append((number, place))
+    return standings
+
+
 def is_rule_of(rules, number, name):
     return is_number_below(number, len(rules)) and rules[number][0] == name
 
