@@ -427,3 +427,171 @@ def long_rules(parts):
         told.append((f"N{len(told)}", ("a", "b", "c", "d", "e", f"N{len(told) + 1}")))
         parts -= 6
     return told + [(f"N{len(told)}", ("a", "b", "c", "d", "e", "f")[:parts])]
+
+
+def plain_joined(plan):
+    """The joined plan and the numbers by the words of point 32."""
+    cores = [sorted({(rule, dot) for rule, dot, ahead in room}) for room in plan[0]]
+    firsts = [at for at, core in enumerate(cores) if cores.index(core) == at]
+    numbers = [firsts.index(cores.index(core)) for core in cores]
+    rooms = [sorted({place for room, core in zip(plan[0], cores) if core == cores[first] for place in room})
+             for first in firsts]
+    return (rooms, sorted({(numbers[room], part, numbers[to]) for room, part, to in plan[1]})), numbers
+
+
+def plain_table_stands(rules, plan, deeds):
+    """Whether the table stands, by the words of points 34 and 35."""
+    rooms, steps = plan
+    if not rules or not rooms:
+        return False
+    last = len(rules)
+    parts = [rule[1] for rule in rules] + [(rules[0][0],)]
+    numbers = range(len(rooms))
+    every = [(room, place) for room in numbers for place in rooms[room]]
+    if not all(rule in range(last + 1) and dot in range(len(parts[rule]) + 1) for room, (rule, dot, ahead) in every):
+        return False
+    if not all(room in numbers and to in numbers for room, part, to in steps):
+        return False
+    if not all(deed[0] in numbers for deed in deeds):
+        return False
+    if any(one[:2] == other[:2] for at, one in enumerate(steps) for other in steps[:at]):
+        return False
+    if any(to == 0 for room, part, to in steps) or any(dot for rule, dot, ahead in rooms[0]):
+        return False
+    if any(rule == last and (ahead != "" or dot == 0 and room != 0) for room, (rule, dot, ahead) in every):
+        return False
+    for room, (rule, dot, ahead) in every:
+        for before, part, to in steps:
+            if dot > 0 and to == room:
+                if part != parts[rule][dot - 1] or (rule, dot - 1) not in [place[:2] for place in rooms[before]]:
+                    return False
+    if any(one[:2] == other[:2] for at, one in enumerate(deeds) for other in deeds[:at]):
+        return False
+    for room, word, deed in deeds:
+        if deed[0] == "step":
+            told = (room, word, deed[1]) in steps and word not in head_order(rules) + [""]
+        elif deed[0] == "make":
+            told = deed[1] in range(last) and (deed[1], len(parts[deed[1]]), word) in rooms[room]
+        else:
+            told = word == "" and (last, 1, "") in rooms[room]
+        if not told:
+            return False
+    return True
+
+
+def plain_begin_texts(rules, names, pairs, parts, ahead):
+    """What begins the parts with a text ahead of what comes, by point 18 and told names and pairs."""
+    told = set()
+    for at, part in enumerate(parts + (None,)):
+        if all(one in names for one in parts[:at]):
+            if part is None:
+                told.add(ahead)
+            elif part in head_order(rules):
+                told |= {word for name, word in pairs if name == part}
+            else:
+                told.add(part)
+    return sorted(told)
+
+
+def plain_table_lacks(rules, names, pairs, plan, deeds):
+    """What the table lacks, by the words of point 36."""
+    rooms, steps = plan
+    last = len(rules)
+    heads = head_order(rules)
+    if not rooms or (last, 0, "") not in rooms[0]:
+        return ("begin", 0, (last, 0, ""))
+    for number, room in enumerate(rooms):
+        for place in room:
+            rule, dot, ahead = place
+            parts = (rules[rule][1] if rule < last else (heads[0],))[dot:]
+            if parts and parts[0] in heads:
+                texts = plain_begin_texts(rules, names, pairs, parts[1:], ahead)
+                wanting = [(other, 0, text) for other in range(last) if rules[other][0] == parts[0] for text in texts
+                           if (other, 0, text) not in room]
+                if wanting:
+                    return ("begin", number, wanting[0])
+            if parts:
+                if not any((rule, dot + 1, ahead) in rooms[to] for one, part, to in steps
+                           if (one, part) == (number, parts[0])):
+                    return ("step", number, place)
+                if parts[0] not in heads and not any(
+                        deed[0] == "step" for one, word, deed in deeds if (one, word) == (number, parts[0])):
+                    return ("deed", number, place)
+            elif ((number, "", ("done",)) if rule == last else (number, ahead, ("make", rule))) not in deeds:
+                return ("deed", number, place)
+    return None
+
+
+def plain_reading(rules, plan, deeds, row):
+    """The deeds done and the tree, a number (the place of a refusal), or None (too many deeds), by point 38."""
+    pile = [0]
+    done = []
+    rest = list(row)
+    while len(done) < 4000:
+        word = (rest + [""])[0]
+        told = [deed for room, one, deed in deeds if (room, one) == (pile[-1], word)]
+        if not told:
+            return len(row) - len(rest)
+        if told[0][0] == "done":
+            return done + [("done",)], pile[-2]
+        if told[0][0] == "step":
+            pile += [rest.pop(0), told[0][1]]
+            done.append(("step", word))
+        else:
+            head, parts = rules[told[0][1]]
+            cut = len(pile) - 2 * len(parts)
+            leads = [to for room, part, to in plan[1] if (room, part) == (pile[cut - 1], head)]
+            if not leads:
+                return len(row) - len(rest)
+            pile[cut:] = [(told[0][1], tuple(pile[cut::2])), leads[0]]
+            done.append(told[0])
+    return None
+
+
+def chance_table(chance, rules, plan, deeds):
+    """A plan and deeds with some changes by chance, in another order; perhaps such as don't stand."""
+    rooms, steps, deeds = [list(room) for room in plan[0]], list(plan[1]), list(deeds)
+    words = ["", "A", "x", "y", "z"]
+
+    def place():
+        return (chance.randrange(-1, len(rules) + 2), chance.randrange(-1, 5), chance.choice(words))
+
+    def room():
+        return chance.randrange(-1, len(rooms) + 1)
+
+    def deed():
+        return chance.choice([("done",), ("step", room()), ("make", chance.randrange(-1, len(rules) + 2))])
+
+    def item(told, fresh):
+        # The tuple with one of its values taken from the fresh one.
+        at = chance.randrange(len(told))
+        return told[:at] + fresh[at:at + 1] + told[at + 1:]
+
+    for _ in range(chance.choice([0, 1, 1, 1, 2, 3])):
+        lists = [one for one in rooms + [steps, deeds] if one]
+        one = chance.choice(lists + [steps, deeds]) if lists else steps
+        at = chance.randrange(len(one)) if one else 0
+        form = chance.randrange(6)
+        if form == 0 and one:
+            one.pop(at)
+        elif form == 1 and one:
+            one.append(one[at])
+        elif form == 2:
+            rooms.append(list(chance.choice(rooms)))
+            if steps:
+                # A step led to the like room.
+                step = steps.pop(chance.randrange(len(steps)))
+                rooms[-1] = list(rooms[step[2]]) if 0 <= step[2] < len(rooms) else []
+                steps.append((step[0], step[1], len(rooms) - 1))
+        elif form == 3:
+            chance.choice(rooms).append(place())
+        elif one:
+            fresh = place()
+            if one is steps:
+                fresh = (room(), chance.choice(words[1:]), room())
+            elif one is deeds:
+                fresh = (room(), chance.choice(words), deed())
+            one[at] = item(one[at], fresh)
+    for one in rooms + [steps, deeds]:
+        chance.shuffle(one)
+    return (rooms, steps), deeds

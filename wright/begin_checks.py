@@ -44,11 +44,7 @@ def begins_stand(rules, names, told):
 
 def begins_lack(rules, names, pairs):
     empty = dict([(name, True) for name in names])
-    told = dict([(name, {}) for name in heads_of(rules)])
-    for name, word in pairs:
-        # What is told of a text that is no head is never asked: such a part is a word.
-        if name in told:
-            told[name][word] = True
+    told = words_told(rules, pairs)
     for number, rule in enumerate(rules):
         for place, part in enumerate(rule[1]):
             words = list(told[part]) if part in told else [part]
@@ -58,3 +54,13 @@ def begins_lack(rules, names, pairs):
             if part not in empty:
                 break
     return None
+
+
+# For each name the words that it is told with, as keys.
+def words_told(rules, pairs):
+    told = dict([(name, {}) for name in heads_of(rules)])
+    for name, word in pairs:
+        # What is told of a text that is no head is never asked: such a part is a word.
+        if name in told:
+            told[name][word] = True
+    return told
