@@ -595,3 +595,172 @@ def chance_table(chance, rules, plan, deeds):
     for one in rooms + [steps, deeds]:
         chance.shuffle(one)
     return (rooms, steps), deeds
+
+
+def plain_wanting(rules, beginning, sets):
+    """All tuples (set, tuple) that the sets lack, by the words of point 41."""
+    heads = head_order(rules)
+    meant = [{one for one in told if one[0] in range(len(rules)) and one[1] in range(len(rules[one[0]][1]) + 1)
+              and one[2] in range(at + 1)} for at, told in enumerate(sets)]
+    wanted = {(0, (number, 0, 0)) for number, rule in enumerate(rules) if rule[0] == heads[0]}
+    for at, told in enumerate(meant):
+        for number, dot, since in told:
+            head, parts = rules[number]
+            if dot == len(parts):
+                wanted |= {(at, (other, dots + 1, ago)) for other, dots, ago in meant[since]
+                           if rules[other][1][dots:dots + 1] == (head,)}
+            elif parts[dot] in heads:
+                wanted |= {(at, (other, 0, at)) for other, rule in enumerate(rules) if rule[0] == parts[dot]}
+            elif beginning[at:at + 1] == [parts[dot]]:
+                wanted.add((at + 1, (number, dot + 1, since)))
+    return {(at, one) for at, one in wanted if one not in meant[at]}
+
+
+def plain_refusal_stands(rules, row, refusal):
+    """Whether the refusal stands, by the words of point 42."""
+    place, sets = refusal
+    if place not in range(len(row) + 1) or len(sets) != place + 1 or plain_wanting(rules, row[:place], sets):
+        return False
+    for number, dot, since in sets[-1]:
+        if number in range(len(rules)) and dot in range(len(rules[number][1]) + 1) and since in range(place + 1):
+            head, parts = rules[number]
+            if place < len(row):
+                if parts[dot:dot + 1] == (row[place],) and row[place] not in head_order(rules):
+                    return False
+            elif dot == len(parts) and since == 0 and head == rules[0][0]:
+                return False
+    return True
+
+
+def plain_rows(rules, most):
+    """All rows of the start of at most so many words, as tuples, by the words of point 10."""
+    rows = {head: set() for head, parts in rules}
+    while True:
+        many = sum(len(found) for found in rows.values())
+        for head, parts in rules:
+            made = {()}
+            for part in parts:
+                made = {one + other for one in made for other in rows.get(part, {(part,)})
+                        if len(one + other) <= most}
+            rows[head] |= made
+        if sum(len(found) for found in rows.values()) == many:
+            return sorted(rows[rules[0][0]])
+
+
+def plain_price(row, other, prices):
+    """The least price of changes that make the other row of the row, by the words of point 43."""
+    put, drop, change = prices
+    last = [put * many for many in range(len(other) + 1)]
+    for word in row:
+        told = [last[0] + drop]
+        for at, beside in enumerate(other):
+            told.append(min(last[at + 1] + drop, told[at] + put, last[at] + (0 if word == beside else change)))
+        last = told
+    return last[-1]
+
+
+def plain_part_price(rules, row, prices, names, part, at, to):
+    """The price of a part from a place to another one, by the words of point 45 and told prices of names."""
+    put, drop, change = prices
+    many = to - at
+    if part in head_order(rules):
+        return names[part, at, to]
+    told = [put + drop * many]
+    if many:
+        told.append(change + drop * (many - 1))
+    if part in row[at:to]:
+        told.append(drop * (many - 1))
+    return min(told)
+
+
+def plain_paper_wanting(rules, row, prices, paper):
+    """All that the paper lacks, by the words of point 45."""
+    names = {told[:3]: told[3] for told in paper[0]}
+    dots = {told[:4]: told[4] for told in paper[1]}
+    spans = [(i, j) for i in range(len(row) + 1) for j in range(i, len(row) + 1)]
+    told = set()
+    for rule, (head, parts) in enumerate(rules):
+        told |= {(rule, i, j) for i, j in spans if dots[rule, 0, i, j] > prices[1] * (j - i)}
+        told |= {(rule, i, k, 0, 0, 0) for i, k in spans if names[head, i, k] > dots[rule, len(parts), i, k]}
+        for dot, part in enumerate(parts):
+            told |= {(rule, dot, i, j, k) for i, j in spans for k in range(j, len(row) + 1)
+                     if dots[rule, dot + 1, i, k] > dots[rule, dot, i, j]
+                     + plain_part_price(rules, row, prices, names, part, j, k)}
+    return told
+
+
+class PlainKeeper:
+    """A keeper by the words of point 47: each word of a row has a number of its own, by which it is known again."""
+
+    def __init__(self, rules, plan, deeds, row):
+        self.rules = rules
+        self.leads = {(room, part): to for room, part, to in plan[1]}
+        self.deeds = {(room, word): deed for room, word, deed in deeds}
+        self.fresh = 0
+        self.row = self.numbered(row)
+        self.kept = []
+        self.read(self.row)
+
+    def numbered(self, words):
+        self.fresh += len(words)
+        return [(self.fresh - len(words) + at, word) for at, word in enumerate(words)]
+
+    def change(self, at, many, words):
+        """The tree and how many words were stepped; a number, the place, where the row is refused."""
+        row = list(self.row)
+        row[at:at + many] = self.numbered(words)
+        return self.read(row)
+
+    def kept_at(self, room, rest):
+        """The kept tree with which the rest of the row begins: the longest, of these the one made last."""
+        best = None
+        for one in self.kept:
+            first, words, behind, tree = one
+            fits = first == room and words and rest[:len(words)] == words
+            if fits and [word for number, word in (rest + [(None, "")])[len(words):][:1]] == [behind]:
+                if best is None or len(words) >= len(best[1]):
+                    best = one
+        return best
+
+    def read(self, row):
+        pile = [(0, None, [])]
+        rest = list(row)
+        stepped = 0
+        made = []
+        while True:
+            room = pile[-1][0]
+            word = rest[0][1] if rest else ""
+            best = self.kept_at(room, rest)
+            if best is not None:
+                rest = rest[len(best[1]):]
+                pile.append((self.leads[room, self.rules[best[3][0]][0]], best[3], best[1]))
+                # Its trees are those whose words are among its own, made ahead of it; trees beside it have others.
+                own = [one for one in self.kept[:self.kept.index(best) + 1] if one[1] and
+                       set(one[1]) <= set(best[1]) and inside(one[3], best[3])]
+                made += own
+                continue
+            deed = self.deeds.get((room, word))
+            if deed is None:
+                return len(row) - len(rest)
+            if deed[0] == "done":
+                self.row, self.kept = row, made
+                return pile[-1][1], stepped
+            if deed[0] == "step":
+                pile.append((deed[1], word, rest[:1]))
+                rest = rest[1:]
+                stepped += 1
+                continue
+            head, parts = self.rules[deed[1]]
+            cut = len(pile) - len(parts)
+            tree = (deed[1], tuple(child for _, child, words in pile[cut:]))
+            words = [word for _, child, words in pile[cut:] for word in words]
+            pile = pile[:cut]
+            if (pile[-1][0], head) not in self.leads:
+                return len(row) - len(rest)
+            made.append((pile[-1][0], words, rest[0][1] if rest else "", tree))
+            pile.append((self.leads[pile[-1][0], head], tree, words))
+
+
+def inside(tree, whole):
+    """Whether the very tree stands in the whole one."""
+    return tree is whole or (not isinstance(whole, str) and any(inside(tree, child) for child in whole[1]))

@@ -16,10 +16,8 @@ def read_with(rules, plan, deeds, row):
 def read_row(table, row):
     reading = Reading(table, row)
     while not reading.is_taken():
-        if len(reading.history) == MOST_DEEDS:
-            raise TooMany()
         reading.do_next()
-    return (reading.history, reading.pile[-1][1])
+    return (reading.history, reading.top_tree())
 
 
 # A plan and its deeds as they are asked: by room and word the deed, by room and part the next room.
@@ -35,34 +33,55 @@ class Reading:
         self.table = table
         self.row = list(row)
         self.stepped = 0
-        # Tuples (room, what came with it: a word or a tree); with room 0 nothing came.
-        self.pile = [(0, None)]
+        # Tuples (room, what came with it: a word or a tree, where this began); with room 0 nothing came.
+        self.pile = [(0, None, None)]
         # The deeds done, as those of a tree.
         self.history = []
+        # The trees made, in order: tuples (room, at, to, many, tree): the room below the tree, the span of
+        # its words in the row, and how many of the trees made are in it, itself too.
+        self.made = []
 
     def is_taken(self):
         return self.history[-1:] == [("done",)]
 
+    def top_tree(self):
+        return self.pile[-1][1]
+
     def do_next(self):
-        word = self.row[self.stepped] if self.stepped < len(self.row) else ""
+        # Each word stepped and each tree made is a deed.
+        if self.stepped + len(self.made) >= MOST_DEEDS:
+            raise TooMany()
+        word = word_at(self.row, self.stepped)
         deed = self.table.next_deeds.get((self.pile[-1][0], word))
         if deed is None:
             raise Refused(self.stepped)
         if deed[0] == "step":
-            self.pile.append((deed[1], word))
+            self.pile.append((deed[1], word, self.here()))
             self.stepped += 1
             deed = ("step", word)
         elif deed[0] == "make":
             self.make_tree(deed[1])
         self.history.append(deed)
 
+    # Behind so many words and trees.
+    def here(self):
+        return (self.stepped, len(self.made))
+
     def make_tree(self, number):
         rule = self.table.rules[number]
-        children = [self.pile.pop()[1] for part in rule[1]]
-        to = self.table.next_rooms.get((self.pile[-1][0], rule[0]))
+        taken = [self.pile.pop() for part in rule[1]]
+        begun = taken[-1][2] if taken else self.here()
+        tree = (number, tuple([child for room, child, since in taken[::-1]]))
+        room = self.pile[-1][0]
+        to = self.table.next_rooms.get((room, rule[0]))
         if to is None:
             raise Refused(self.stepped)
-        self.pile.append((to, (number, tuple(children[::-1]))))
+        self.made.append((room, begun[0], self.stepped, len(self.made) + 1 - begun[1], tree))
+        self.pile.append((to, tree, begun))
+
+
+def word_at(row, place):
+    return row[place] if place < len(row) else ""
 
 
 class Reader:

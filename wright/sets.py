@@ -54,19 +54,25 @@ class PlaceSets:
         own.met[pair] = True
         return [moved_on(asker) for asker in self.sets[pair[1]].askers.get(pair[0], [])]
 
+    # Whether the grammar makes the beginning itself.
+    def is_made(self):
+        return (self.rules[0][0], 0) in self.sets[-1].met
+
+    def told_sets(self):
+        return [sorted(one.found) for one in self.sets]
+
 
 def moved_on(one):
     return (one[0], one[1] + 1, one[2])
 
 
 def place_sets(grammar, beginning):
-    return [sorted(one.found) for one in PlaceSets(grammar, beginning).sets]
+    return PlaceSets(grammar, beginning).told_sets()
 
 
 def goes_on(grammar, beginning):
     every = PlaceSets(grammar, beginning)
-    last = every.sets[-1]
-    words = [part for part in last.askers if part not in every.numbers]
-    if (grammar.start(), 0) in last.met:
+    words = [part for part in every.sets[-1].askers if part not in every.numbers]
+    if every.is_made():
         words.append("")
     return sorted(words)
